@@ -1,0 +1,1 @@
+"""Words of bits, made clauses. The entrance is answers in bitclauses.terms."""
