@@ -21,6 +21,10 @@ class Gates:
         """How many nodes there are."""
         return len(self.nodes)
 
+    def pair(self, n):
+        """The two literals of node n; None for an input's bit."""
+        return self.nodes[n - 1]
+
     def fresh(self):
         """The literal of a new node for an input's bit."""
         self.nodes.append(None)

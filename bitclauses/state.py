@@ -32,3 +32,11 @@ class State:
     def put_mark(self):
         """Keeps how much there is now."""
         self.marks.append((len(self.terms), len(self.inputs), len(self.claims), self.gates.size()))
+
+    def back_to_mark(self):
+        """Only what there was at the last mark stays, and the mark goes."""
+        kept = self.marks.pop()
+        self.terms = self.terms[:kept[0]]
+        self.inputs = self.inputs[:kept[1]]
+        self.claims = self.claims[:kept[2]]
+        self.gates.shrink(kept[3])

@@ -5,6 +5,7 @@ from bitclauses.state import State
 from bitclauses.terms import answers
 
 INPUT, CONST, NOT, NEG, TWO, JOIN, CUT, ZEXT, SEXT, PICK, CLAIM, MARK = range(12)
+UNDO, DECIDE, SAME, RANGE, COUNT, BITS, NODE, SIZES, CLAUSES, READS, VALUE = range(12, 23)
 AND, OR, XOR, ADD, SUB, MUL, DIV, REM, SHL, SHR, SAR, EQ, ULT, SLT = range(14)
 TOP = 4294967295
 
@@ -25,25 +26,52 @@ def flat(calls):
 
 def apart(told):
     """A list of answers taken apart, one list for each call."""
-    parts = []
-    place = 0
-    while place < len(told):
-        end = place + 1 + told[place]
-        if end > len(told) or told[place] < 1:
-            raise AssertionError(f"not a list of answers: {told}")
-        parts.append(told[place + 1:end])
-        place = end
+    parts = apart_empty_too(told)
+    if [] in parts:
+        raise AssertionError(f"nothing is answered of a call: {told}")
     return parts
 
 
 def ask(calls):
     """What each of the calls answers."""
+    if not 1 <= len(calls) <= 40 or len(flat(calls)) > 31000:
+        raise AssertionError("no such list is handed in")
     return apart(answers(flat(calls)))
 
 
 def last(calls):
     """What the last of the calls answers."""
     return ask(calls)[-1]
+
+
+def reads(told):
+    """The call reads with its row."""
+    return [READS, len(told)] + list(told)
+
+
+def value(t, given):
+    """The call value with its row."""
+    return [VALUE, t, len(given)] + list(given)
+
+
+def clause_lists(told):
+    """The answer of clauses taken apart, one list for each clause."""
+    found = apart_empty_too(told[1:])
+    if len(found) != told[0]:
+        raise AssertionError(f"not as many clauses as told: {told}")
+    return found
+
+
+def apart_empty_too(told):
+    parts = []
+    place = 0
+    while place < len(told):
+        end = place + 1 + told[place]
+        if end > len(told):
+            raise AssertionError(f"a part is cut off: {told}")
+        parts.append(told[place + 1:end])
+        place = end
+    return parts
 
 
 def built(calls):
@@ -154,14 +182,18 @@ def words_values(calls, world):
 
 
 class Model:
-    """DOC.md, Gates and The promises, read a second time; slow and plain: a gate is looked for in the whole list."""
+    """DOC.md from Gates to The promises, read a second time; slow and plain: a gate is looked for in the whole list,
+    and what holds is asked of each world, one by one, with no gate."""
 
     def __init__(self):
         self.nodes = []
         self.terms = []
-        self.input_bits = 0
-        self.claims = 0
-        self.marks = 0
+        # The calls that made the terms, for words_values.
+        self.made = []
+        self.claims = []
+        # For each mark copies of all four.
+        self.marks = []
+        self.seen = None
 
     def both(self, x, y):
         if x > y:
@@ -305,28 +337,121 @@ class Model:
             SEXT: lambda: not widths[0] <= numbers[1] <= 8,
             PICK: lambda: widths[0] != 1 or widths[1] != widths[2],
             CLAIM: lambda: widths[0] != 1,
-            MARK: lambda: False,
-        }[call]()
+            SAME: lambda: widths[0] != widths[1],
+            VALUE: lambda: not self.is_world(numbers[2:]),
+            READS: lambda: len(numbers) - 1 != len(self.needed()) or any(bit > 1 for bit in numbers[1:]),
+        }.get(call, lambda: False)()
 
-    def answer(self, call):
-        call, *numbers = call
-        named = {TWO: numbers[1:], JOIN: numbers, PICK: numbers, INPUT: [], CONST: [], MARK: []}
-        names = named.get(call, numbers[:1])
-        if any(name >= len(self.terms) for name in names):
-            return [-2]
-        if self.unfit(call, numbers, [len(self.terms[name]) for name in names]):
-            return [-1]
-        if call == CLAIM and self.claims == 12 or call == MARK and self.marks == 8:
+    def input_widths(self):
+        return [call[1] for call in self.made if call[0] == INPUT]
+
+    def is_world(self, given):
+        widths = self.input_widths()
+        return len(given) == len(widths) and all(v < 2 ** w for v, w in zip(given, widths))
+
+    def all_worlds(self):
+        """Each world with each term's value in it."""
+        if self.seen is None or self.seen[0] != self.made:
+            found = [(world, [v for w, v in words_values(self.made, world)]) for world in worlds(self.input_widths())]
+            self.seen = (list(self.made), found)
+        return self.seen[1]
+
+    def fitting(self):
+        return [(world, told) for world, told in self.all_worlds() if all(told[t] == 1 for t in self.claims)]
+
+    def needed(self):
+        """The numbers of the needed nodes: more and more, until there are no more."""
+        found = {self.terms[t][0] // 2 for t in self.claims} - {0}
+        while True:
+            pairs = [self.nodes[n - 1] for n in found if self.nodes[n - 1] is not None]
+            more = found | {x // 2 for pair in pairs for x in pair}
+            if more == found:
+                return sorted(found)
+            found = more
+
+    def clauses(self):
+        def sign(x):
+            return -(x // 2) if x % 2 else x // 2
+
+        found = []
+        for n in self.needed():
+            if self.nodes[n - 1] is not None:
+                x, y = self.nodes[n - 1]
+                found += [[-n, sign(x)], [-n, sign(y)], [n, sign(self.flip(x)), sign(self.flip(y))]]
+        for t in self.claims:
+            x = self.terms[t][0]
+            found += {0: [[]], 1: []}.get(x, [[sign(x)]])
+        return found
+
+    def solution(self, world):
+        """Of each needed node whether it is, in a world."""
+        widths = self.input_widths()
+        bits = node_bits(self.nodes, [v // 2 ** i % 2 for v, w in zip(world, widths) for i in range(w)])
+        return [bits[n - 1] for n in self.needed()]
+
+    def read(self, told):
+        truth = {}
+        for n, bit in zip(self.needed(), told):
+            truth[n] = bit == 1
+            truth[-n] = bit == 0
+        for place, clause in enumerate(self.clauses()):
+            if not any(truth[x] for x in clause):
+                return [0, place]
+        inputs = [self.terms[t] for t, call in enumerate(self.made) if call[0] == INPUT]
+        found = [sum(2 ** i for i, x in enumerate(word) if truth.get(x // 2)) for word in inputs]
+        return [1, len(found)] + found
+
+    def same(self, t, u):
+        for world, told in self.fitting():
+            if told[t] != told[u]:
+                return [0, len(world)] + world
+        return [1]
+
+    def span(self, t):
+        reached = sorted(told[t] for world, told in self.fitting())
+        return [1, reached[0], reached[-1]] if reached else [0]
+
+    def decide(self):
+        for world, told in self.fitting():
+            return [1, len(world)] + world
+        return [0]
+
+    def value(self, t, given):
+        told = dict((tuple(world), told) for world, told in self.all_worlds())[tuple(given)]
+        return [int(all(told[c] == 1 for c in self.claims)), told[t]]
+
+    def undo(self):
+        if not self.marks:
+            return [-7]
+        self.nodes, self.terms, self.made, self.claims = self.marks.pop()
+        return [len(self.terms), len(self.claims)]
+
+    def node(self, n):
+        if not 1 <= n <= len(self.nodes):
+            return [-3]
+        pair = self.nodes[n - 1]
+        return [0] if pair is None else [1, *pair]
+
+    def sizes(self):
+        gates = [pair for pair in self.nodes if pair is not None]
+        return [len(self.nodes), len(gates), len(self.needed()), len(self.clauses())]
+
+    def claim(self, t):
+        if len(self.claims) == 12:
             return [-5]
-        if call == CLAIM:
-            self.claims += 1
-            return [self.claims]
-        if call == MARK:
-            self.marks += 1
-            return [self.marks]
+        self.claims.append(t)
+        return [len(self.claims)]
+
+    def mark(self):
+        if len(self.marks) == 8:
+            return [-5]
+        self.marks.append((list(self.nodes), list(self.terms), list(self.made), list(self.claims)))
+        return [len(self.marks)]
+
+    def make(self, call, numbers):
         if len(self.terms) == 30:
             return [-5]
-        if call == INPUT and self.input_bits + numbers[0] > 10:
+        if call == INPUT and sum(self.input_widths()) + numbers[0] > 10:
             return [-4]
         before = list(self.nodes)
         word = self.word(call, numbers)
@@ -334,5 +459,113 @@ class Model:
             self.nodes = before
             return [-6]
         self.terms.append(word)
-        self.input_bits += numbers[0] if call == INPUT else 0
+        self.made.append([call] + numbers)
         return [len(self.terms) - 1, len(self.nodes)]
+
+    def answer(self, call):
+        call, *numbers = call
+        named = {TWO: numbers[1:], JOIN: numbers, PICK: numbers, SAME: numbers}
+        for alone in (NOT, NEG, CUT, ZEXT, SEXT, CLAIM, RANGE, BITS, VALUE):
+            named[alone] = numbers[:1]
+        names = named.get(call, [])
+        if any(name >= len(self.terms) for name in names):
+            return [-2]
+        if self.unfit(call, numbers, [len(self.terms[name]) for name in names]):
+            return [-1]
+        if call < CLAIM:
+            return self.make(call, numbers)
+        return {
+            CLAIM: lambda: self.claim(numbers[0]),
+            MARK: self.mark,
+            UNDO: self.undo,
+            DECIDE: self.decide,
+            SAME: lambda: self.same(*numbers),
+            RANGE: lambda: self.span(numbers[0]),
+            COUNT: lambda: [len(self.fitting())],
+            BITS: lambda: [len(self.terms[numbers[0]])] + self.terms[numbers[0]],
+            NODE: lambda: self.node(numbers[0]),
+            SIZES: self.sizes,
+            CLAUSES: lambda: [len(self.clauses())] + flat([[len(clause)] + clause for clause in self.clauses()]),
+            READS: lambda: self.read(numbers[1:]),
+            VALUE: lambda: self.value(numbers[0], numbers[2:]),
+        }[call]()
+
+
+def random_call(draw, there, wide, favourite):
+    """A call that mostly fits: there are so many terms, mostly so wide; the favourite is asked more often."""
+    def term():
+        return draw.randrange(there) if there and draw.random() < 0.98 else draw.choice((there, 40, TOP))
+
+    def width():
+        return wide if draw.random() < 0.9 else draw.randrange(0, 10)
+
+    def constant():
+        w = width()
+        return [w, draw.randrange(2 ** w + 1)]
+
+    call = draw.choice((INPUT, CONST, NOT, NEG, TWO, TWO, TWO, TWO, JOIN, CUT, ZEXT, SEXT, PICK, CLAIM, MARK))
+    if there > 2 and draw.random() < 0.8:
+        call = favourite
+    return [call] + {
+        INPUT: lambda: [width()],
+        CONST: constant,
+        NOT: lambda: [term()],
+        NEG: lambda: [term()],
+        TWO: lambda: [draw.randrange(14), term(), term()],
+        JOIN: lambda: [term(), term()],
+        CUT: lambda: [term(), draw.randrange(8), draw.randrange(5)],
+        ZEXT: lambda: [term(), width()],
+        SEXT: lambda: [term(), width()],
+        PICK: lambda: [term(), term(), term()],
+        CLAIM: lambda: [term()],
+        MARK: lambda: [],
+    }[call]()
+
+
+def random_question(draw, model):
+    """One of the calls 12 to 22 that mostly fits what's there in the model."""
+    there = len(model.terms)
+
+    def term():
+        return draw.randrange(there) if there and draw.random() < 0.96 else draw.choice((there, 40, TOP))
+
+    def partner(t):
+        fits = draw.random() < 0.8
+        found = [u for u in range(there) if t < there and (len(model.terms[u]) == len(model.terms[t])) == fits]
+        return draw.choice(found) if found else term()
+
+    def node():
+        return draw.choice((0, 1, 2, len(model.nodes), len(model.nodes) + 1, draw.randrange(1, 1202), TOP))
+
+    def spoilt(row, most):
+        row = list(row)
+        if draw.random() < 0.15 and row:
+            row[draw.randrange(len(row))] = draw.choice((2, 256, TOP))
+        if draw.random() < 0.1:
+            row = (row + [0, 1])[:draw.choice((0, len(row) + 1, len(row) + 2))]
+        return row[:most]
+
+    def world():
+        return [draw.randrange(2 ** w) for w in model.input_widths()]
+
+    def solution():
+        fitting = model.fitting()
+        row = model.solution(draw.choice(fitting)[0] if fitting and draw.random() < 0.7 else world())
+        if row and draw.random() < 0.4:
+            place = draw.randrange(len(row))
+            row[place] = 1 - row[place]
+        return row
+
+    call = draw.choice((UNDO, DECIDE, SAME, RANGE, COUNT, BITS, NODE, SIZES, CLAUSES, READS, READS, VALUE, VALUE))
+    if call == SAME:
+        t = term()
+        return [SAME, t, partner(t)]
+    if call in (RANGE, BITS):
+        return [call, term()]
+    if call == NODE:
+        return [NODE, node()]
+    if call == READS:
+        return reads(spoilt(solution(), 1210))
+    if call == VALUE:
+        return value(term(), spoilt(world(), 16))
+    return [call]

@@ -1,4 +1,4 @@
-"""Point 2, as far as claim and mark go."""
+"""Point 2, claim and mark; undo has a file of its own."""
 
 import unittest
 

@@ -6,7 +6,7 @@ import unittest
 from bitclauses.gates import Gates
 from tests.helper import (
     ADD, AND, CLAIM, CONST, CUT, DIV, EQ, INPUT, JOIN, MARK, MUL, NEG, NOT, OR, PICK, REM, SAR, SEXT, SHL, SHR, SLT,
-    SUB, TWO, ULT, XOR, ZEXT, Model, ask, built, last,
+    SUB, TWO, ULT, XOR, ZEXT, Model, ask, built, last, random_call,
 )
 
 # How many nodes there are behind two inputs of widths 1 to 4 and the term of two over them, by hand:
@@ -265,37 +265,6 @@ class AgainstTheModel(unittest.TestCase):
                 refused[told[0]] = refused.get(told[0], 0) + 1
         for refusal in (-6, -5, -4, -2, -1):
             self.assertGreater(refused.get(refusal, 0), 20, refusal)
-
-
-def random_call(draw, there, wide, favourite):
-    """A call that mostly fits: there are so many terms, mostly so wide; the favourite is asked more often."""
-    def term():
-        return draw.randrange(there) if there and draw.random() < 0.98 else draw.choice((there, 40, 4294967295))
-
-    def width():
-        return wide if draw.random() < 0.9 else draw.randrange(0, 10)
-
-    def constant():
-        w = width()
-        return [w, draw.randrange(2 ** w + 1)]
-
-    call = draw.choice((INPUT, CONST, NOT, NEG, TWO, TWO, TWO, TWO, JOIN, CUT, ZEXT, SEXT, PICK, CLAIM, MARK))
-    if there > 2 and draw.random() < 0.8:
-        call = favourite
-    return [call] + {
-        INPUT: lambda: [width()],
-        CONST: constant,
-        NOT: lambda: [term()],
-        NEG: lambda: [term()],
-        TWO: lambda: [draw.randrange(14), term(), term()],
-        JOIN: lambda: [term(), term()],
-        CUT: lambda: [term(), draw.randrange(8), draw.randrange(5)],
-        ZEXT: lambda: [term(), width()],
-        SEXT: lambda: [term(), width()],
-        PICK: lambda: [term(), term(), term()],
-        CLAIM: lambda: [term()],
-        MARK: lambda: [],
-    }[call]()
 
 
 if __name__ == "__main__":

@@ -8,10 +8,14 @@ from unittest import mock
 
 import bitclauses.terms
 from bitclauses.terms import answers
-from tests.helper import CLAIM, CONST, DIV, INPUT, MANY_NODES, MARK, NEG, NOT, PICK, TWO, flat
+from tests.helper import (
+    BITS, CLAIM, CLAUSES, CONST, COUNT, DECIDE, DIV, INPUT, MANY_NODES, MARK, NEG, NODE, NOT, PICK, RANGE, READS, SAME,
+    SIZES, TWO, UNDO, VALUE, flat,
+)
 
 EVERY_CALL = [
     0, 3, 1, 3, 5, 2, 0, 3, 1, 4, 3, 0, 1, 5, 0, 1, 6, 5, 4, 1, 7, 0, 8, 8, 0, 8, 9, 6, 0, 1, 10, 6, 11, 10, 99, 0, 9,
+    12, 13, 14, 0, 9, 14, 0, 1, 15, 0, 16, 17, 6, 18, 1, 18, 4, 19, 20, 21, 1, 1, 22, 4, 1, 3, 12, 21, 0,
 ]
 
 
@@ -27,13 +31,40 @@ class Form(unittest.TestCase):
         self.assertEqual(answers(EVERY_CALL), [
             2, 0, 3, 2, 1, 3, 2, 2, 3, 2, 3, 3, 2, 4, 12, 2, 5, 12, 2, 6, 12, 2, 7, 12, 2, 8, 12, 2, 9, 15,
             1, 1, 1, 1, 1, -2, 1, -1,
+            2, 10, 1, 3, 1, 1, 2, 1, 1, 3, 0, 1, 2, 3, 1, 2, 7, 1, 4, 2, 1, 4, 1, 0, 3, 1, 3, 4, 4, 15, 12, 1, 1,
+            3, 1, 1, 2, 3, 1, 1, 2, 2, 1, 0, 1, -7, 1, -1,
         ])
+
+    def test_no_count_but_those_that_are_told(self):
+        two = [INPUT, 2, INPUT, 1]
+        self.assertEqual(answers(two + [DECIDE])[6:], [4, 1, 2, 0, 0])
+        self.assertEqual(answers(two + [CLAIM, 1, DECIDE])[8:], [4, 1, 2, 0, 1])
+        self.assertEqual(answers(two + [NOT, 1, SAME, 1, 2])[9:], [4, 0, 2, 0, 0])
+        self.assertEqual(answers(two + [SAME, 1, 1])[6:], [1, 1])
+        self.assertEqual(answers(two + [RANGE, 0])[6:], [3, 1, 0, 3])
+        self.assertEqual(answers(two + [COUNT])[6:], [1, 8])
+        self.assertEqual(answers(two + [BITS, 0])[6:], [3, 2, 2, 4])
+        self.assertEqual(answers(two + [NODE, 3])[6:], [1, 0])
+        self.assertEqual(answers(two + [SIZES])[6:], [4, 3, 0, 0, 0])
+        self.assertEqual(answers(two + [CLAUSES])[6:], [1, 0])
+        self.assertEqual(answers(two + [CLAIM, 1, CLAUSES])[8:], [3, 1, 1, 3])
+        self.assertEqual(answers(two + [READS, 0])[6:], [4, 1, 2, 0, 0])
+        self.assertEqual(answers(two + [CLAIM, 1, READS, 1, 0])[8:], [2, 0, 0])
+        self.assertEqual(answers(two + [VALUE, 0, 2, 3, 1])[6:], [2, 1, 3])
+        self.assertEqual(answers(two + [MARK, UNDO])[6:], [1, 1, 2, 2, 0])
 
     def test_single_call(self):
         self.assertEqual(answers([INPUT, 8]), [2, 0, 8])
         self.assertEqual(answers([CONST, 8, 255]), [2, 0, 0])
         self.assertEqual(answers([MARK]), [1, 1])
         self.assertEqual(answers([CLAIM, 0]), [1, -2])
+        self.assertEqual(answers([UNDO]), [1, -7])
+        self.assertEqual(answers([DECIDE]), [2, 1, 0])
+        self.assertEqual(answers([COUNT]), [1, 1])
+        self.assertEqual(answers([SIZES]), [4, 0, 0, 0, 0])
+        self.assertEqual(answers([CLAUSES]), [1, 0])
+        self.assertEqual(answers([READS, 0]), [2, 1, 0])
+        self.assertEqual(answers([VALUE, 0, 0]), [1, -2])
 
     def test_whole_numbers_in_a_list(self):
         told = answers(EVERY_CALL)

@@ -107,6 +107,46 @@ class Language(unittest.TestCase):
                 self.assertIsNone(alias.asname, name)
                 self.assertIn(alias.name, defined, name)
 
+    def test_no_two_files_draw_from_one_another(self):
+        drawn = {path.stem: set() for path in files()}
+        for name, node in nodes(ast.ImportFrom):
+            drawn[name[:-3]].add(node.module.split(".")[1])
+        settled = set()
+        while len(settled) < len(drawn):
+            more = {stem for stem in drawn if stem not in settled and drawn[stem] <= settled}
+            self.assertTrue(more, drawn)
+            settled |= more
+
+    def test_walked_at_once(self):
+        allowed = ("list", "tuple", "dict", "sorted", "sum", "any", "all", "enumerate", "zip", "min", "max")
+        for path in files():
+            fine = []
+            found = []
+            for node in ast.walk(ast.parse(path.read_text())):
+                if isinstance(node, (ast.For, ast.comprehension)):
+                    fine.append(ast.dump(node.iter, include_attributes=True))
+                if isinstance(node, ast.Call) and isinstance(node.func, ast.Name):
+                    if node.func.id in allowed and node.args:
+                        fine.append(ast.dump(node.args[0], include_attributes=True))
+                    if node.func.id in ("zip", "enumerate", "reversed", "range"):
+                        found.append(ast.dump(node, include_attributes=True))
+                if isinstance(node, ast.Call) and isinstance(node.func, ast.Attribute):
+                    if node.func.attr in ("items", "keys", "values"):
+                        found.append(ast.dump(node, include_attributes=True))
+            self.assertEqual([node for node in found if node not in fine], [], path)
+
+    def test_values_at_the_top(self):
+        for name, module in nodes(ast.Module):
+            defined = []
+            for node in module.body:
+                if isinstance(node, ast.FunctionDef):
+                    defined.append(node.name)
+                if isinstance(node, ast.Assign):
+                    for part in ast.walk(node.value):
+                        self.assertIsInstance(part, (ast.Constant, ast.Tuple, ast.UnaryOp, ast.USub, ast.Name, ast.Load))
+                        if isinstance(part, ast.Name):
+                            self.assertIn(part.id, defined, name)
+
     def test_defs(self):
         for name, node in nodes(ast.FunctionDef):
             self.assertLessEqual(node.end_lineno - node.lineno + 1, 40, node.name)
